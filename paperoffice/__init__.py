@@ -1,0 +1,1 @@
+"""Papers that go through an office: people, procedures, signatures."""

@@ -1,0 +1,10 @@
+"""The numbers by which a call is refused."""
+
+NOT_ONE_THAT_MAY_BE = -2
+TOO_LATE = -3
+NOT_STANDING_IN = -4
+NOT_ENTITLED = -5
+WRITER_MAY_NOT = -6
+ACTED_IN_THIS_ROUND = -7
+FULL = -8
+ACTED_IN_A_ROLE_KEPT_APART = -9
