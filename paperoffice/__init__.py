@@ -1,1 +1,1 @@
-"""Papers that go through an office: people, procedures, signatures."""
+"""Papers that go through an office: people, procedures, signatures, days."""

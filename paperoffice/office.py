@@ -8,6 +8,8 @@ LAST_ROLE = 15
 UNDER_WAY = 0
 APPROVED = 1
 REFUSED = 2
+WITHDRAWN = 3
+LAPSED = 4
 
 
 class Person:
@@ -78,3 +80,8 @@ def is_role(number):
 
 def current_step(office, paper):
     return office.procedures[paper.procedure][paper.step]
+
+
+def due_from_today(office, paper):
+    """The day on which the paper is due if its step's days begin today."""
+    return office.today + current_step(office, paper).days

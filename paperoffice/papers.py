@@ -1,7 +1,8 @@
-"""Points 4 and 7: filing a paper, and signing or refusing it."""
+"""Points 4, 7 and 8: filing a paper, signing or refusing it, and withdrawing it."""
 
-from paperoffice.office import APPROVED, NOWHERE, REFUSED, Act, Paper, current_step, has
-from paperoffice.refusals import FULL, NOT_ONE_THAT_MAY_BE
+from paperoffice.office import APPROVED, NOWHERE, REFUSED, UNDER_WAY, WITHDRAWN
+from paperoffice.office import Act, Paper, current_step, due_from_today, has
+from paperoffice.refusals import FULL, NOT_ONE_THAT_MAY_BE, NOT_THE_WRITER, TOO_LATE
 from paperoffice.rights import refusal_to_act
 
 MOST_PAPERS = 256
@@ -12,7 +13,7 @@ def come_to(office, paper, number):
     """The paper comes to the step with this number, in the round it is in."""
     paper.step = number
     paper.level = 0
-    paper.due = office.today + current_step(office, paper).days
+    paper.due = due_from_today(office, paper)
 
 
 def file_paper(office, writer, procedure):
@@ -76,3 +77,15 @@ def refuse_paper(office, by, behalf, number):
     note_act(paper, by, behalf, 0)
     go_back(office, paper)
     return paper.state
+
+
+def withdraw_paper(office, by, number):
+    if not has(office.people, by) or not has(office.papers, number):
+        return NOT_ONE_THAT_MAY_BE
+    paper = office.papers[number]
+    if paper.state != UNDER_WAY:
+        return TOO_LATE
+    if paper.writer != by:
+        return NOT_THE_WRITER
+    paper.state = WITHDRAWN
+    return 0

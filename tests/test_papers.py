@@ -2,11 +2,8 @@
 
 import unittest
 
-from calls import LEAST, MOST, file, last, may, person, procedure, refuse, roles, sign, step, told
-from paperoffice.office import Office
-from paperoffice.papers import file_paper, refuse_paper, sign_paper
-from paperoffice.people import add_person
-from paperoffice.procedures import add_procedure
+from calls import (LEAST, MOST, acts, days, file, last, last_row, may, person, procedure, refuse, roles, sign, step, tell,
+                   told, withdraw)
 
 UNDER_WAY = 0
 APPROVED = 1
@@ -38,7 +35,8 @@ class TestFile(unittest.TestCase):
 
     def test_papers_that_came_to_an_end_count_too(self):
         calls = [person(1), procedure(step())] + [file(0)] * 256
-        self.assertEqual(told(*calls, sign(0, 255), refuse(0, 0), file(0))[-3:], [APPROVED, REFUSED, -8])
+        self.assertEqual(told(*calls, sign(0, 255), refuse(0, 0), withdraw(0, 1), days(12), file(0))[-5:],
+                         [APPROVED, REFUSED, 0, 12, -8])
 
     def test_it_goes_through_its_own_procedure(self):
         calls = [person(1), procedure(step(), step()), procedure(step()), file(0, 1), file(0, 0)]
@@ -50,55 +48,33 @@ class TestFile(unittest.TestCase):
 
 
 class TestComing(unittest.TestCase):
-    """Level and due day can't be asked for by these calls, so the office is looked at."""
+    HOUSE = [person(1), person(1), procedure(step(days=30), step(days=7, back=0), step(days=1, back=1)), days(30), days(20)]
 
-    def setUp(self):
-        self.office = Office()
-        add_person(self.office, 1, -1)
-        add_procedure(self.office, step(days=30) + step(days=7, back=0) + step(days=1, back=1))
-        self.office.today = 100
-        file_paper(self.office, 0, 0)
-        self.paper = self.office.papers[0]
-
-    def place(self):
-        return (self.paper.step, self.paper.turn, self.paper.level, self.paper.due)
+    def place(self, *calls):
+        """The step, the round, the level and the day it is due."""
+        return last_row(*self.HOUSE, *calls, tell())[3:7]
 
     def test_a_new_office_is_on_day_0(self):
-        self.assertEqual(Office().today, 0)
+        self.assertEqual(told(days(1)), [1])
+        self.assertEqual(last_row(person(1), procedure(step(days=9)), file(0), tell())[6], 9)
 
     def test_filed_it_is_at_step_0_in_round_0(self):
-        self.assertEqual(self.place(), (0, 0, 0, 130))
+        self.assertEqual(self.place(file(0)), [0, 0, 0, 80])
 
     def test_signed_it_comes_to_the_next_step_in_the_same_round(self):
-        self.paper.level = 5
-        self.office.today = 120
-        sign_paper(self.office, 0, 0, 0)
-        self.assertEqual(self.place(), (1, 0, 0, 127))
+        self.assertEqual(self.place(file(0), days(20), sign(0)), [1, 0, 0, 77])
 
     def test_refused_it_comes_to_the_step_told_in_the_next_round(self):
-        sign_paper(self.office, 0, 0, 0)
-        sign_paper(self.office, 0, 0, 0)
-        self.paper.level = 3
-        self.office.today = 101
-        refuse_paper(self.office, 0, 0, 0)
-        self.assertEqual(self.place(), (1, 1, 0, 108))
+        self.assertEqual(self.place(file(0), sign(0), sign(0), days(1), refuse(0)), [1, 1, 0, 58])
 
     def test_a_signature_that_is_not_the_last_moves_nothing(self):
-        add_person(self.office, 1, -1)
-        add_procedure(self.office, step(signatures=2, days=3))
-        file_paper(self.office, 0, 1)
-        self.paper = self.office.papers[1]
-        self.paper.level = 2
-        self.office.today = 102
-        sign_paper(self.office, 0, 0, 1)
-        self.assertEqual(self.place(), (0, 0, 2, 103))
+        calls = [procedure(step(signatures=2, days=3)), file(0, 1), days(2)]
+        self.assertEqual(self.place(*calls), [0, 0, 0, 53])
+        self.assertEqual(self.place(*calls, sign(0)), [0, 0, 0, 53])
 
     def test_acts_are_noted_in_order(self):
-        sign_paper(self.office, 0, 0, 0)
-        refuse_paper(self.office, 0, 0, 0)
-        sign_paper(self.office, 0, 0, 0)
-        noted = [(act.step, act.turn, act.by, act.behalf, act.signed) for act in self.paper.acts]
-        self.assertEqual(noted, [(0, 0, 0, 0, 1), (1, 0, 0, 0, 0), (0, 1, 0, 0, 1)])
+        self.assertEqual(last_row(*self.HOUSE, file(0), sign(0), refuse(1), sign(0), acts()),
+                         [3, 0, 0, 0, 0, 1, 1, 0, 1, 1, 0, 0, 1, 0, 0, 1])
 
 
 class TestSign(unittest.TestCase):

@@ -2,12 +2,7 @@
 
 import unittest
 
-from calls import apart, file, person, procedure, refuse, roles, sign, step, told
-from paperoffice.office import Office
-from paperoffice.papers import file_paper, sign_paper
-from paperoffice.people import add_person, keep_apart
-from paperoffice.procedures import add_procedure
-from paperoffice.rights import is_entitled, refusal_to_act
+from calls import apart, away, days, file, pass_days, person, procedure, refuse, roles, sign, step, told, withdraw
 
 
 class TestReasons(unittest.TestCase):
@@ -25,10 +20,10 @@ class TestEachReason(TestReasons):
     def test_3_it_is_not_under_way(self):
         calls = [person(1), person(1), procedure(step()), file(0)]
         self.check(calls, 1, 1, 0)
-        self.check(calls + [sign(0)], 1, 1, -3)
-        self.check(calls + [refuse(0)], 1, 1, -3)
+        for end in (sign(0), refuse(0), withdraw(0), days(12)):
+            self.check(calls + [end], 1, 1, -3)
 
-    def test_4_nobody_acts_for_another(self):
+    def test_4_nobody_acts_for_another_unless_it_was_said(self):
         calls = [person(1), person(1, 0), procedure(step()), file(0)]
         self.check(calls, 0, 1, -4)
         self.check(calls, 1, 0, -4)
@@ -184,121 +179,124 @@ class TestTwoReasons(TestReasons):
         self.check(calls, 0, 0, -7)
 
 
-class TestActingForAnother(unittest.TestCase):
-    """No call here names who acts for whom, so the office is told by hand."""
+class TestActingForAnother(TestReasons):
+    HOUSE = [person(3), person(3), person(3), person(0)]
 
-    def setUp(self):
-        self.office = Office()
-        for held in (3, 3, 3, 0):
-            add_person(self.office, held, -1)
-
-    def stand_in(self, number, other, until):
-        self.office.people[number].stand_in = other
-        self.office.people[number].stand_in_until = until
-
-    def paper(self, writer, *steps):
-        add_procedure(self.office, [number for each in steps for number in each])
-        file_paper(self.office, writer, 0)
-        return self.office.papers[0]
-
-    def may(self, by, behalf, paper):
-        return refusal_to_act(self.office, by, behalf, paper)
-
-    def test_4_up_to_that_day(self):
-        paper = self.paper(2, step())
-        self.office.today = 7
-        for until, answer in ((6, -4), (7, 0), (8, 0)):
-            self.stand_in(0, 1, until)
-            with self.subTest(until=until):
-                self.assertEqual(self.may(1, 0, paper), answer)
+    def test_3_before_4_to_9_for_another_too(self):
+        calls = self.HOUSE + [procedure(step()), file(2), away(0, 1, 9)]
+        self.check(calls, 1, 0, 0)
+        for end in (sign(0), refuse(0), withdraw(2), days(12)):
+            self.check(calls + [end], 1, 0, -3)
 
     def test_4_only_that_other_and_only_for_them(self):
-        paper = self.paper(2, step())
-        self.stand_in(0, 1, 0)
-        self.stand_in(1, 2, 0)
-        self.assertEqual([self.may(1, 0, paper), self.may(2, 1, paper)], [0, 0])
-        self.assertEqual([self.may(0, 1, paper), self.may(2, 0, paper), self.may(1, 2, paper)], [-4, -4, -4])
+        calls = self.HOUSE + [procedure(step()), file(2), away(0, 1, 0), away(1, 2, 0)]
+        for by, behalf, answer in ((1, 0, 0), (2, 1, 0), (0, 1, -4), (2, 0, -4), (1, 2, -4), (3, 0, -4)):
+            self.check(calls, by, behalf, answer)
+
+    def test_4_before_5_6_7_9_when_the_day_is_over(self):
+        nobody_else = self.HOUSE + [procedure(step(days=30, signatures=3, writer_may_sign=0)), file(0)]
+        for by, behalf, answer in ((1, 3, -5), (1, 0, -6), (0, 1, -6)):
+            self.check(nobody_else + [away(behalf, by, 2), days(2)], by, behalf, answer)
+            self.check(nobody_else + [away(behalf, by, 2), days(3)], by, behalf, -4)
+        signed = nobody_else + [sign(1), away(1, 2, 2), days(2)]
+        self.check(signed, 2, 1, -7)
+        self.check(signed + [days(1)], 2, 1, -4)
+        kept_apart = [apart(0, 1)] + self.HOUSE + [procedure(step(0), step(1, days=30)), file(3), sign(1), away(1, 2, 2)]
+        self.check(kept_apart, 2, 1, -9)
+        self.check(kept_apart + [days(3)], 2, 1, -4)
 
     def test_5_the_one_acted_for_is_to_be_entitled(self):
-        paper = self.paper(2, step())
-        self.stand_in(0, 3, 0)
-        self.stand_in(3, 0, 0)
-        self.assertEqual(self.may(3, 0, paper), 0)
-        self.assertEqual(self.may(0, 3, paper), -5)
+        calls = self.HOUSE + [procedure(step()), file(2), away(0, 3, 0), away(3, 0, 0)]
+        self.check(calls, 3, 0, 0)
+        self.check(calls, 0, 3, -5)
+
+    def test_5_before_6_7_9_for_another_too(self):
+        writer = self.HOUSE + [procedure(step(writer_may_sign=0)), file(0), away(3, 0, 0)]
+        self.check(writer, 0, 3, -5)
+        signed = self.HOUSE + [procedure(step(signatures=2)), file(0), sign(1), away(3, 1, 0)]
+        self.check(signed, 1, 3, -5)
+        kept_apart = [apart(0, 1)] + self.HOUSE + [procedure(step(0), step(1)), file(0), sign(1), away(3, 1, 0)]
+        self.check(kept_apart, 1, 3, -5)
 
     def test_6_the_writer_is_by_or_for(self):
-        paper = self.paper(0, step(writer_may_sign=0))
-        self.stand_in(0, 1, 0)
-        self.stand_in(1, 0, 0)
-        self.stand_in(2, 1, 0)
-        self.assertEqual([self.may(1, 0, paper), self.may(0, 1, paper), self.may(1, 2, paper)], [-6, -6, 0])
+        calls = self.HOUSE + [procedure(step(writer_may_sign=0)), file(0), away(0, 1, 0), away(1, 0, 0), away(2, 1, 0)]
+        for by, behalf, answer in ((1, 0, -6), (0, 1, -6), (1, 2, 0)):
+            self.check(calls, by, behalf, answer)
 
     def test_6_the_writer_may_be_either_where_it_is_allowed(self):
-        paper = self.paper(0, step(writer_may_sign=1))
-        self.stand_in(0, 1, 0)
-        self.stand_in(1, 0, 0)
-        self.assertEqual([self.may(1, 0, paper), self.may(0, 1, paper)], [0, 0])
+        calls = self.HOUSE + [procedure(step(writer_may_sign=1)), file(0), away(0, 1, 0), away(1, 0, 0)]
+        self.check(calls, 1, 0, 0)
+        self.check(calls, 0, 1, 0)
 
-    def check_both_are_bound(self, paper, answer):
+    def check_both_are_bound(self, calls, act, answer):
         """When 1 has acted for 0, neither may act again, nor be acted for."""
-        self.stand_in(0, 1, 0)
-        self.assertEqual(sign_paper(self.office, 1, 0, 0), 0)
+        before = calls + [away(0, 1, 0), act(1, behalf=0)]
         for by, behalf in ((0, 0), (1, 1), (1, 0), (0, 1), (1, 2), (2, 1), (0, 2), (2, 0)):
-            if by != behalf:
-                self.stand_in(behalf, by, 0)
-            with self.subTest(by=by, behalf=behalf):
-                self.assertEqual(self.may(by, behalf, paper), answer)
-        self.stand_in(2, 3, 0)
-        self.assertEqual([self.may(2, 2, paper), self.may(3, 2, paper)], [0, 0])
+            named = [away(behalf, by, 0)] if by != behalf else []
+            self.check(before + named, by, behalf, answer)
+        self.check(before, 2, 2, 0)
+        self.check(before + [away(2, 3, 0)], 3, 2, 0)
 
     def test_7_either_has_acted_or_been_acted_for(self):
-        self.check_both_are_bound(self.paper(3, step(signatures=3)), -7)
+        calls = self.HOUSE + [procedure(step(signatures=3, back=0)), file(3)]
+        self.check_both_are_bound(calls, sign, -7)
+        # A refusal ends the round, and with it what was done at the step.
+        self.check_both_are_bound(calls, refuse, 0)
 
     def test_9_either_has_acted_or_been_acted_for(self):
-        keep_apart(self.office, 0, 1)
-        self.check_both_are_bound(self.paper(3, step(0), step(1)), -9)
+        calls = [apart(0, 1), apart(0, 0)] + self.HOUSE + [procedure(step(0, back=0), step(1)), file(3)]
+        self.check_both_are_bound(calls, sign, -9)
+        self.check_both_are_bound(calls, refuse, -9)
 
     def test_6_before_7(self):
-        paper = self.paper(0, step(signatures=2, writer_may_sign=0))
-        self.assertEqual(sign_paper(self.office, 1, 1, 0), 0)
-        self.assertEqual(self.may(1, 1, paper), -7)
-        self.stand_in(1, 0, 0)
-        self.assertEqual(self.may(0, 1, paper), -6)
+        calls = self.HOUSE + [procedure(step(signatures=2, writer_may_sign=0)), file(0), sign(1)]
+        self.check(calls, 1, 1, -7)
+        self.check(calls + [away(1, 0, 0)], 0, 1, -6)
 
     def test_one_act_is_one_signature(self):
-        self.paper(3, step(signatures=2))
-        self.stand_in(0, 1, 0)
-        self.assertEqual(sign_paper(self.office, 1, 0, 0), 0)
-        self.assertEqual(sign_paper(self.office, 2, 2, 0), 1)
-        noted = [(act.by, act.behalf) for act in self.office.papers[0].acts]
-        self.assertEqual(noted, [(1, 0), (2, 2)])
+        calls = self.HOUSE + [procedure(step(signatures=2)), file(3), away(0, 1, 0), sign(1, behalf=0), sign(2)]
+        self.assertEqual(told(*calls)[-2:], [0, 1])
 
 
-class TestLevels(unittest.TestCase):
-    """No call here lets days pass, so a paper's level is told by hand."""
+class TestLevels(TestReasons):
+    """3 and 6 hold the role; 3's chiefs are 2, 1 and 0, 6's is 5; 4 is below 3."""
 
-    def setUp(self):
-        self.office = Office()
-        for held, chief in ((0, -1), (0, 0), (0, 1), (1, 2), (0, 3), (0, -1), (1, 5)):
-            add_person(self.office, held, chief)
-        add_procedure(self.office, step())
-        file_paper(self.office, 4, 0)
-        self.paper = self.office.papers[0]
+    HOUSE = [person(0), person(0, 0), person(0, 1), person(1, 2), person(0, 3), person(0), person(1, 5)]
+    CALLS = HOUSE + [procedure(step(days=2)), file(4)]
 
     def test_chiefs_up_to_the_level_are_entitled(self):
-        wanted = {0: [3, 6], 1: [2, 3, 5, 6], 2: [1, 2, 3, 5, 6], 3: [0, 1, 2, 3, 5, 6], 5: [0, 1, 2, 3, 5, 6]}
+        wanted = {0: [3, 6], 1: [2, 3, 5, 6], 2: [1, 2, 3, 5, 6], 3: [0, 1, 2, 3, 5, 6], 4: [0, 1, 2, 3, 5, 6],
+                  5: [0, 1, 2, 3, 5, 6]}
         for level, entitled in wanted.items():
-            self.paper.level = level
-            with self.subTest(level=level):
-                self.assertEqual([number for number in range(7) if is_entitled(self.office, number, 0, level)], entitled)
-                self.assertEqual([number for number in range(7)
-                                  if refusal_to_act(self.office, number, number, self.paper) == 0], entitled)
+            for number in range(7):
+                self.check(self.CALLS + pass_days(3 * level), number, number, 0 if number in entitled else -5)
 
     def test_where_there_is_no_chief_it_goes_no_higher(self):
-        office = Office()
-        for held, chief in ((0, -1), (1, -1), (0, 0)):
-            add_person(office, held, chief)
-        self.assertEqual([is_entitled(office, number, 0, 5) for number in range(3)], [False, True, False])
+        calls = [person(0), person(1), person(0, 0), procedure(step()), file(0), days(10)]
+        for number, answer in ((0, -5), (1, 0), (2, -5)):
+            self.check(calls, number, number, answer)
+
+    def test_one_may_act_for_a_chief(self):
+        calls = self.CALLS + [away(2, 4, 9), away(1, 4, 9)]
+        self.check(calls, 4, 2, -5)
+        self.check(calls + [days(3)], 4, 2, 0)
+        self.check(calls + [days(3)], 4, 1, -5)
+        self.check(calls + [days(6)], 4, 1, 0)
+
+    def test_a_chief_who_wrote_it_may_not_where_the_writer_may_not(self):
+        calls = self.HOUSE + [procedure(step(days=2, writer_may_sign=0)), file(2)]
+        self.check(calls, 2, 2, -5)
+        self.check(calls + [days(3)], 2, 2, -6)
+
+    def test_a_chief_who_has_acted_may_not_again(self):
+        calls = self.HOUSE + [procedure(step(signatures=2, days=2)), file(4), days(3), sign(2)]
+        self.check(calls, 2, 2, -7)
+        self.check(calls, 5, 5, 0)
+
+    def test_a_chief_acts_in_the_role_of_the_step(self):
+        calls = [apart(0, 1)] + self.HOUSE + [roles(2, 2), procedure(step(0, days=2), step(1)), file(4), days(3)]
+        self.check(calls + [sign(2)], 2, 2, -9)
+        self.check(calls + [sign(3)], 2, 2, 0)
 
 
 if __name__ == "__main__":
